@@ -486,19 +486,19 @@ func TestMelodyResultsAreNewMemory(t *testing.T) {
 		for _, k := range []int{0, 7} {
 			a := spare(m)
 			moved, _ := impl.MelodyMove(a, k)
-			checkApart(t, "MelodyMove", moved, a)
+			checkApart(t, "MelodyMove", moved, a, noTone)
 		}
 		a := spare(m)
 		back, _ := impl.MelodyBack(a)
-		checkApart(t, "MelodyBack", back, a)
+		checkApart(t, "MelodyBack", back, a, noTone)
 		for _, n := range [][]impl.Tone{{}, tonesOf(t, "D0"), tonesOf(t, "A1 b1 A1")} {
 			b := spare(n)
 			joined, _ := impl.MelodyJoin(a, b)
-			checkApart(t, "MelodyJoin", joined, a)
+			checkApart(t, "MelodyJoin", joined, a, noTone)
 			joined, _ = impl.MelodyJoin(a, b)
-			checkApart(t, "MelodyJoin", joined, b)
+			checkApart(t, "MelodyJoin", joined, b, noTone)
 			joined, _ = impl.MelodyJoin(a, a)
-			checkApart(t, "MelodyJoin", joined, a)
+			checkApart(t, "MelodyJoin", joined, a, noTone)
 		}
 	}
 }

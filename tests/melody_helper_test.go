@@ -139,14 +139,17 @@ func spare[T any](list []T) []T {
 	return append(make([]T, 0, len(list)+30), list...)
 }
 
-// checkApart changes all of a result, its capacity too, and compares the argument with what it was.
-func checkApart(t *testing.T, what string, result, argument []impl.Tone) {
+// noTone is a value that no melody has.
+var noTone = impl.Tone{Step: -9, Soft: true}
+
+// checkApart puts another value at each place of a result, its capacity too, and compares the argument with what it was.
+func checkApart[T comparable](t *testing.T, what string, result, argument []T, other T) {
 	t.Helper()
 	room := argument[:cap(argument)]
 	was := slices.Clone(room)
 	result = result[:cap(result)]
 	for i := range result {
-		result[i] = impl.Tone{Step: -9, Soft: true}
+		result[i] = other
 	}
 	if !slices.Equal(room, was) {
 		t.Errorf("a result of %s shares memory with its argument", what)
